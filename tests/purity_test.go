@@ -8,8 +8,11 @@ import (
 	"loop.example/g00880/impl"
 )
 
-// texts are strings that are names, numbers, words, and none of these.
-var texts = []string{"", " ", "   ", "a", "grid7", "7grid", "-0", "0", "007", "-12", " a  b ", "\xff", "\u00e9 x", "999999999999999999", "1000000000000000000"}
+// texts are strings that are names, numbers, words, intervals, and none of these.
+var texts = []string{
+	"", " ", "   ", "a", "grid7", "7grid", "-0", "0", "007", "-12", " a  b ", "\xff", "\u00e9 x", "999999999999999999", "1000000000000000000",
+	"0.1", "-0.1", "-0.0", "268435456", "268435457", "whole", "[-0.1, 0.1]", "[1, 0]", "[0, 268435456]", "[0, 1",
+}
 
 // basicsOf prints the results of all functions of chapter 1 for numbers and a text.
 func basicsOf(a, b int64, s string) string {
@@ -38,6 +41,32 @@ func widesOf(v, w impl.Wide, n int64) string {
 		q, r, divOk, root, rootOk, impl.WideText(v))
 }
 
+// fixesOf prints the results of all functions of chapter 3.
+func fixesOf(a, b int64, s string) string {
+	list := []any{impl.ValidFix(a), impl.TextDown(a, b), impl.TextUp(a, b)}
+	for _, f := range []func(a, b int64) (int64, bool){impl.FixFloor, impl.FixCeil, impl.MulDown, impl.MulUp, impl.DivDown, impl.DivUp} {
+		n, ok := f(a, b)
+		list = append(list, n, ok)
+	}
+	for _, f := range []func(a int64) (int64, bool){impl.SqrtDown, impl.SqrtUp} {
+		n, ok := f(a)
+		list = append(list, n, ok)
+	}
+	down, up, ok := impl.ReadFix(s)
+	return fmt.Sprint(append(list, down, up, ok)...)
+}
+
+// intervalsOf prints the results of all functions of chapter 4.
+func intervalsOf(a, b impl.Interval, n int64, s string) string {
+	meet, meetOk := impl.MeetI(a, b)
+	read, readOk := impl.ReadInterval(s)
+	return fmt.Sprint(impl.Whole(), impl.ValidInterval(a), impl.IsWhole(a), impl.Integer(n), impl.Quotient(n, b.Lo),
+		impl.AddI(a, b), impl.SubI(a, b), impl.NegI(a), impl.MulI(a, b), impl.DivI(a, b), impl.SqrI(a), impl.SqrtI(a),
+		impl.AbsI(a), impl.MinI(a, b), impl.MaxI(a, b), impl.HalfI(a), impl.DoubleI(a), impl.HullI(a, b), meet, meetOk,
+		impl.HasI(a, n), impl.InsideI(a, b), impl.OverlapI(a, b), impl.LessI(a, b), impl.WidthI(a), impl.MidI(a),
+		impl.IntervalText(a), read, readOk)
+}
+
 // everything prints the results of all functions for many arguments.
 func everything() []string {
 	var lines []string
@@ -56,6 +85,26 @@ func everything() []string {
 		w := wide[(i*11+5)%len(wide)]
 		for _, n := range list {
 			lines = append(lines, widesOf(v, w, n))
+		}
+	}
+	return append(lines, fixesAndIntervals()...)
+}
+
+// fixesAndIntervals prints the results of all functions of the chapters 3 and
+// 4 for many arguments.
+func fixesAndIntervals() []string {
+	var lines []string
+	list := append(fixes(), numbers()...)
+	for i, a := range list {
+		for k, s := range texts {
+			lines = append(lines, fixesOf(a, list[(i+k*k)%len(list)], s), fixesOf(a, int64(k-1), s))
+		}
+	}
+	intervals := append(boundedIntervals(), wholes()...)
+	for i, a := range intervals {
+		for k, n := range list {
+			b := intervals[(i*5+k*7)%len(intervals)]
+			lines = append(lines, intervalsOf(a, b, n, texts[(i+k)%len(texts)]))
 		}
 	}
 	return lines
