@@ -67,6 +67,19 @@ func intervalsOf(a, b impl.Interval, n int64, s string) string {
 		impl.IntervalText(a), read, readOk)
 }
 
+// constantsOf prints the results of all functions of chapter 5.
+func constantsOf(a, b int64, x impl.Interval) string {
+	lower, upper, ok := impl.UnitsOf(x)
+	return fmt.Sprint(impl.PiI(), impl.TurnI(a), impl.RadiansOf(a), impl.DegreesOf(x), lower, upper, ok,
+		impl.ArcCotangent(a, b), impl.MachinPi(a), impl.EulerPi(a))
+}
+
+// trigonometryOf prints the results of all functions of chapter 6.
+func trigonometryOf(n int64, x impl.Interval) string {
+	return fmt.Sprint(impl.QuarterOf(n), impl.SinSeries(x), impl.CosSeries(x), impl.SinAt(n), impl.CosAt(n),
+		impl.SinI(x), impl.CosI(x), impl.TanI(x))
+}
+
 // everything prints the results of all functions for many arguments.
 func everything() []string {
 	var lines []string
@@ -87,7 +100,8 @@ func everything() []string {
 			lines = append(lines, widesOf(v, w, n))
 		}
 	}
-	return append(lines, fixesAndIntervals()...)
+	lines = append(lines, fixesAndIntervals()...)
+	return append(lines, trigonometry()...)
 }
 
 // fixesAndIntervals prints the results of all functions of the chapters 3 and
@@ -105,6 +119,26 @@ func fixesAndIntervals() []string {
 		for k, n := range list {
 			b := intervals[(i*5+k*7)%len(intervals)]
 			lines = append(lines, intervalsOf(a, b, n, texts[(i+k)%len(texts)]))
+		}
+	}
+	return lines
+}
+
+// trigonometry prints the results of all functions of the chapters 5 and 6 for
+// many arguments.
+func trigonometry() []string {
+	var lines []string
+	list := append(fixes(), numbers()...)
+	list = append(list, impl.MaxAngle, impl.MaxAngle+1, -impl.MaxAngle, -impl.MaxAngle-1, impl.MaxTurns, impl.MaxTurns+1)
+	intervals := append(boundedIntervals(), wholes()...)
+	for lo := int64(-impl.MaxAngle); lo < impl.MaxAngle; lo += impl.MaxAngle / 97 {
+		intervals = append(intervals, impl.Interval{Lo: lo, Hi: lo + size(lo)/4})
+	}
+	for i, x := range intervals {
+		n := list[i%len(list)]
+		lines = append(lines, constantsOf(n, list[(i*7+3)%len(list)], x), trigonometryOf(n, x))
+		for terms := int64(-1); terms <= impl.MaxTerms+1; terms += 3 {
+			lines = append(lines, constantsOf(terms, int64(i%43-1), x))
 		}
 	}
 	return lines

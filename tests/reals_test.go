@@ -1,0 +1,114 @@
+package tests
+
+import (
+	"math"
+	"math/big"
+	"testing"
+
+	"loop.example/g00880/impl"
+)
+
+// precision is the number of binary digits of real numbers, of which those
+// behind the 32 of a fix are to decide on all roundings.
+const precision = 240
+
+// piDigits is pi with more digits than the precision has.
+const piDigits = "3.14159265358979323846264338327950288419716939937510582097494459230781640628620899"
+
+// realOf returns an integer as a real number.
+func realOf(n int64) *big.Float { return new(big.Float).SetPrec(precision).SetInt64(n) }
+
+// valueOf returns the value of a fix as a real number.
+func valueOf(n int64) *big.Float { return over(realOf(n), realOf(impl.Unit)) }
+
+func plus(x, y *big.Float) *big.Float  { return new(big.Float).Add(x, y) }
+func minus(x, y *big.Float) *big.Float { return new(big.Float).Sub(x, y) }
+func times(x, y *big.Float) *big.Float { return new(big.Float).Mul(x, y) }
+func over(x, y *big.Float) *big.Float  { return new(big.Float).Quo(x, y) }
+
+// realPi returns pi.
+func realPi() *big.Float {
+	pi, _, err := big.ParseFloat(piDigits, 10, precision, big.ToNearestEven)
+	if err != nil {
+		panic(err)
+	}
+	return pi
+}
+
+// quarterTurns returns k quarter turns in radians.
+func quarterTurns(k int64) *big.Float { return times(realPi(), over(realOf(k), realOf(2))) }
+
+// sineAndCosine returns both functions of an angle that is not too great.
+func sineAndCosine(x *big.Float) (*big.Float, *big.Float) {
+	quarters, _ := over(x, quarterTurns(1)).Float64()
+	k := int64(math.Round(quarters))
+	rest := minus(x, quarterTurns(k))
+	sine, cosine := taylor(rest, rest, 1), taylor(rest, realOf(1), 0)
+	for range k & 3 {
+		sine, cosine = cosine, times(realOf(-1), sine)
+	}
+	return sine, cosine
+}
+
+// taylor returns the sum of the terms of the sine or the cosine of at most an
+// eighth turn from the first one, whose exponent is given, on.
+func taylor(x, first *big.Float, exponent int64) *big.Float {
+	square := times(times(realOf(-1), x), x)
+	sum, term := first, first
+	for i := exponent + 1; i < exponent+54; i += 2 {
+		term = over(times(term, square), realOf(i*(i+1)))
+		sum = plus(sum, term)
+	}
+	return sum
+}
+
+// arcTangentOf returns the arc tangent of 1 / n for an n of at least 2.
+func arcTangentOf(n int64) *big.Float {
+	power := over(realOf(1), realOf(n))
+	sum := realOf(0)
+	for k := int64(0); k < precision/2+10; k++ {
+		sum = plus(sum, over(power, realOf((1-k%2*2)*(2*k+1))))
+		power = over(power, realOf(n*n))
+	}
+	return sum
+}
+
+// inUnits returns a real number in units of 2^-32.
+func inUnits(x *big.Float) *big.Rat {
+	r, _ := times(x, realOf(impl.Unit)).Rat(nil)
+	return r
+}
+
+// contains requires that an interval contains a real number.
+func contains(t *testing.T, name string, a impl.Interval, x *big.Float) {
+	t.Helper()
+	if !isIn(inUnits(x), a) {
+		t.Errorf("%s: %v does not contain %s units", name, a, inUnits(x).FloatString(9))
+	}
+}
+
+// isNarrow requires that an interval is bounded and not wider than a limit.
+func isNarrow(t *testing.T, name string, a impl.Interval, limit int64) {
+	t.Helper()
+	if width := impl.WidthI(a); width < 0 || width > limit {
+		t.Errorf("%s: %v has the width %d, which should be 0 to %d", name, a, width, limit)
+	}
+}
+
+func TestRealNumbersFitTogether(t *testing.T) {
+	almost := func(name string, x, y *big.Float) {
+		t.Helper()
+		if difference := minus(x, y); difference.MantExp(nil) > 40-precision && difference.Sign() != 0 {
+			t.Errorf("%s: %s and %s", name, x.Text('g', 70), y.Text('g', 70))
+		}
+	}
+	machin := minus(times(realOf(16), arcTangentOf(5)), times(realOf(4), arcTangentOf(239)))
+	almost("the formula of Machin", machin, realPi())
+	sine, cosine := sineAndCosine(times(realPi(), over(realOf(-1), realOf(6))))
+	almost("the sine of -30 degrees", sine, over(realOf(-1), realOf(2)))
+	almost("the square of the cosine of -30 degrees", times(cosine, cosine), over(realOf(3), realOf(4)))
+	sine, cosine = sineAndCosine(times(realPi(), over(realOf(7*6+4), realOf(6))))
+	almost("the cosine of 7 half turns and 120 degrees", cosine, over(realOf(1), realOf(2)))
+	almost("the square of the sine of 7 half turns and 120 degrees", times(sine, sine), over(realOf(3), realOf(4)))
+	is(t, "the sign of the sine of 7 half turns and 120 degrees", sine.Sign(), -1)
+}
