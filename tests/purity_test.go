@@ -80,6 +80,12 @@ func trigonometryOf(n int64, x impl.Interval) string {
 		impl.SinI(x), impl.CosI(x), impl.TanI(x))
 }
 
+// arcsOf prints the results of all functions of chapter 7.
+func arcsOf(m, n int64, x, y impl.Interval) string {
+	return fmt.Sprint(impl.ArcSeries(x), impl.CircleAt(n), impl.AtanAt(n), impl.AsinAt(n), impl.AtanI(x), impl.AsinI(x),
+		impl.AcosI(x), impl.DirectionAt(m, n), impl.DirectionI(y, x))
+}
+
 // everything prints the results of all functions for many arguments.
 func everything() []string {
 	var lines []string
@@ -101,7 +107,8 @@ func everything() []string {
 		}
 	}
 	lines = append(lines, fixesAndIntervals()...)
-	return append(lines, trigonometry()...)
+	lines = append(lines, trigonometry()...)
+	return append(lines, arcs()...)
 }
 
 // fixesAndIntervals prints the results of all functions of the chapters 3 and
@@ -140,6 +147,24 @@ func trigonometry() []string {
 		for terms := int64(-1); terms <= impl.MaxTerms+1; terms += 3 {
 			lines = append(lines, constantsOf(terms, int64(i%43-1), x))
 		}
+	}
+	return lines
+}
+
+// arcs prints the results of all functions of chapter 7 for many arguments.
+func arcs() []string {
+	var lines []string
+	list := append(append(fixes(), numbers()...), coordinates...)
+	intervals := append(append(boundedIntervals(), wholes()...), boxSides()...)
+	for i, x := range intervals {
+		for k, n := range list {
+			y := intervals[(i*3+k*11)%len(intervals)]
+			lines = append(lines, arcsOf(list[(i+k*5)%len(list)], n, x, y))
+		}
+	}
+	for i, n := range ringNumbers() {
+		x := impl.Interval{Lo: n, Hi: n + size(n)}
+		lines = append(lines, arcsOf(n, list[i%len(list)], x, exactly(n)), arcsOf(-n, n, exactly(-n), x))
 	}
 	return lines
 }

@@ -73,6 +73,50 @@ func arcTangentOf(n int64) *big.Float {
 	return sum
 }
 
+// halfTangent returns the tangent of half the angle with the tangent x.
+func halfTangent(x *big.Float) *big.Float {
+	root := plus(realOf(1), times(x, x))
+	return over(x, plus(realOf(1), root.Sqrt(root)))
+}
+
+// arcTangent returns the arc tangent of a real number.
+func arcTangent(x *big.Float) *big.Float {
+	const halvings = 12
+	for range halvings {
+		x = halfTangent(x)
+	}
+	square := times(realOf(-1), times(x, x))
+	sum, power := realOf(0), x
+	for odd := int64(1); odd < 25; odd += 2 {
+		sum = plus(sum, over(power, realOf(odd)))
+		power = times(power, square)
+	}
+	return times(sum, realOf(1<<halvings))
+}
+
+// arcSine returns the arc sine of a real number from -1 to 1.
+func arcSine(x *big.Float) *big.Float {
+	square := minus(realOf(1), times(x, x))
+	return directionOf(x, square.Sqrt(square))
+}
+
+// directionOf returns the angle of a point other than 0, 0 from the positive x
+// axis, greater than -pi and at most pi.
+func directionOf(y, x *big.Float) *big.Float {
+	if x.Sign() > 0 {
+		return arcTangent(over(y, x))
+	}
+	// From 90 degrees farther on the right, or on the left, this is an angle
+	// of less than 90 degrees, or of 90 degrees.
+	switch y.Sign() {
+	case 1:
+		return plus(quarterTurns(1), arcTangent(over(times(realOf(-1), x), y)))
+	case -1:
+		return minus(arcTangent(over(x, times(realOf(-1), y))), quarterTurns(1))
+	}
+	return quarterTurns(2)
+}
+
 // inUnits returns a real number in units of 2^-32.
 func inUnits(x *big.Float) *big.Rat {
 	r, _ := times(x, realOf(impl.Unit)).Rat(nil)
@@ -111,4 +155,12 @@ func TestRealNumbersFitTogether(t *testing.T) {
 	almost("the cosine of 7 half turns and 120 degrees", cosine, over(realOf(1), realOf(2)))
 	almost("the square of the sine of 7 half turns and 120 degrees", times(sine, sine), over(realOf(3), realOf(4)))
 	is(t, "the sign of the sine of 7 half turns and 120 degrees", sine.Sign(), -1)
+	almost("the arc tangent of 1/7", arcTangent(over(realOf(1), realOf(7))), arcTangentOf(7))
+	almost("the arc tangent of 3", arcTangent(realOf(3)), minus(quarterTurns(1), arcTangentOf(3)))
+	almost("the arc sine of -1/2", arcSine(over(realOf(-1), realOf(2))), over(realPi(), realOf(-6)))
+	almost("the arc sine of 1", arcSine(realOf(1)), quarterTurns(1))
+	almost("the direction of -1, 0", directionOf(realOf(0), realOf(-1)), realPi())
+	almost("the direction of -1, -1", directionOf(realOf(-1), realOf(-1)), times(realPi(), over(realOf(-3), realOf(4))))
+	almost("the direction of -2, 1", directionOf(realOf(1), realOf(-2)), plus(quarterTurns(1), arcTangent(realOf(2))))
+	almost("the direction of 0, -5", directionOf(realOf(-5), realOf(0)), quarterTurns(-1))
 }
