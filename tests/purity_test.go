@@ -86,6 +86,12 @@ func arcsOf(m, n int64, x, y impl.Interval) string {
 		impl.AcosI(x), impl.DirectionAt(m, n), impl.DirectionI(y, x))
 }
 
+// exponentialsOf prints the results of all functions of chapter 8.
+func exponentialsOf(k, n int64, x impl.Interval) string {
+	return fmt.Sprint(impl.LogTwoI(k), impl.ExpAt(n), impl.LogAt(n), impl.ExpI(x), impl.LogI(x), impl.SinhI(x), impl.CoshI(x),
+		impl.TanhI(x), impl.AsinhI(x), impl.AtanhI(x), impl.PowerI(x, k))
+}
+
 // everything prints the results of all functions for many arguments.
 func everything() []string {
 	var lines []string
@@ -108,7 +114,8 @@ func everything() []string {
 	}
 	lines = append(lines, fixesAndIntervals()...)
 	lines = append(lines, trigonometry()...)
-	return append(lines, arcs()...)
+	lines = append(lines, arcs()...)
+	return append(lines, exponentials()...)
 }
 
 // fixesAndIntervals prints the results of all functions of the chapters 3 and
@@ -165,6 +172,22 @@ func arcs() []string {
 	for i, n := range ringNumbers() {
 		x := impl.Interval{Lo: n, Hi: n + size(n)}
 		lines = append(lines, arcsOf(n, list[i%len(list)], x, exactly(n)), arcsOf(-n, n, exactly(-n), x))
+	}
+	return lines
+}
+
+// exponentials prints the results of all functions of chapter 8 for many
+// arguments.
+func exponentials() []string {
+	var lines []string
+	list := append(append(fixes(), numbers()...), append(exponents(), positives()...)...)
+	intervals := append(expIntervals(), wholes()...)
+	for i, x := range intervals {
+		n := list[i%len(list)]
+		lines = append(lines, exponentialsOf(int64(i%20-1), n, x), exponentialsOf(n, list[(i*5+3)%len(list)], x))
+	}
+	for i, n := range list {
+		lines = append(lines, exponentialsOf(int64(i%135-67), n, exactly(n)))
 	}
 	return lines
 }

@@ -15,6 +15,9 @@ const precision = 240
 // piDigits is pi with more digits than the precision has.
 const piDigits = "3.14159265358979323846264338327950288419716939937510582097494459230781640628620899"
 
+// lnTwoDigits is the logarithm of 2 with more digits than the precision has.
+const lnTwoDigits = "0.693147180559945309417232121458176568075500134360255254120680009493393621969694715605863"
+
 // realOf returns an integer as a real number.
 func realOf(n int64) *big.Float { return new(big.Float).SetPrec(precision).SetInt64(n) }
 
@@ -26,14 +29,20 @@ func minus(x, y *big.Float) *big.Float { return new(big.Float).Sub(x, y) }
 func times(x, y *big.Float) *big.Float { return new(big.Float).Mul(x, y) }
 func over(x, y *big.Float) *big.Float  { return new(big.Float).Quo(x, y) }
 
-// realPi returns pi.
-func realPi() *big.Float {
-	pi, _, err := big.ParseFloat(piDigits, 10, precision, big.ToNearestEven)
+// readReal returns the real number with a decimal form.
+func readReal(digits string) *big.Float {
+	x, _, err := big.ParseFloat(digits, 10, precision, big.ToNearestEven)
 	if err != nil {
 		panic(err)
 	}
-	return pi
+	return x
 }
+
+// realPi returns pi.
+func realPi() *big.Float { return readReal(piDigits) }
+
+// realLnTwo returns the logarithm of 2.
+func realLnTwo() *big.Float { return readReal(lnTwoDigits) }
 
 // quarterTurns returns k quarter turns in radians.
 func quarterTurns(k int64) *big.Float { return times(realPi(), over(realOf(k), realOf(2))) }
@@ -117,6 +126,58 @@ func directionOf(y, x *big.Float) *big.Float {
 	return quarterTurns(2)
 }
 
+// exponentialOf returns the exponential of a real number.
+func exponentialOf(x *big.Float) *big.Float {
+	twos, _ := over(x, realLnTwo()).Float64()
+	k := int64(math.Round(twos))
+	rest := minus(x, times(realOf(k), realLnTwo()))
+	sum, term := realOf(1), realOf(1)
+	for i := int64(1); i < 55; i++ {
+		term = over(times(term, rest), realOf(i))
+		sum = plus(sum, term)
+	}
+	return sum.SetMantExp(sum, int(k))
+}
+
+// logarithmOf returns the logarithm of a positive real number.
+func logarithmOf(x *big.Float) *big.Float {
+	part := new(big.Float)
+	twos := int64(x.MantExp(part))
+	z := over(minus(part, realOf(1)), plus(part, realOf(1)))
+	sum, power := realOf(0), z
+	for odd := int64(1); odd < 165; odd += 2 {
+		sum = plus(sum, over(power, realOf(odd)))
+		power = times(power, times(z, z))
+	}
+	return plus(times(realOf(twos), realLnTwo()), plus(sum, sum))
+}
+
+// hyperbolicSineAndCosine returns both functions of a real number.
+func hyperbolicSineAndCosine(x *big.Float) (*big.Float, *big.Float) {
+	up, down := exponentialOf(x), exponentialOf(times(realOf(-1), x))
+	return over(minus(up, down), realOf(2)), over(plus(up, down), realOf(2))
+}
+
+// hyperbolicTangent returns the hyperbolic tangent of a real number.
+func hyperbolicTangent(x *big.Float) *big.Float {
+	sine, cosine := hyperbolicSineAndCosine(x)
+	return over(sine, cosine)
+}
+
+// inverseHyperbolicSine returns the number with a hyperbolic sine.
+func inverseHyperbolicSine(x *big.Float) *big.Float {
+	if x.Sign() < 0 {
+		return times(realOf(-1), inverseHyperbolicSine(times(realOf(-1), x)))
+	}
+	root := plus(times(x, x), realOf(1))
+	return logarithmOf(plus(x, root.Sqrt(root)))
+}
+
+// inverseHyperbolicTangent returns the number with a hyperbolic tangent.
+func inverseHyperbolicTangent(x *big.Float) *big.Float {
+	return over(logarithmOf(over(plus(realOf(1), x), minus(realOf(1), x))), realOf(2))
+}
+
 // inUnits returns a real number in units of 2^-32.
 func inUnits(x *big.Float) *big.Rat {
 	r, _ := times(x, realOf(impl.Unit)).Rat(nil)
@@ -139,12 +200,19 @@ func isNarrow(t *testing.T, name string, a impl.Interval, limit int64) {
 	}
 }
 
+// isAlmost requires that two real numbers are equal, but for the last digits.
+func isAlmost(t *testing.T, name string, x, y *big.Float) {
+	t.Helper()
+	limit := 40 - precision + max(0, y.MantExp(nil))
+	if difference := minus(x, y); difference.MantExp(nil) > limit && difference.Sign() != 0 {
+		t.Errorf("%s: %s and %s", name, x.Text('g', 70), y.Text('g', 70))
+	}
+}
+
 func TestRealNumbersFitTogether(t *testing.T) {
 	almost := func(name string, x, y *big.Float) {
 		t.Helper()
-		if difference := minus(x, y); difference.MantExp(nil) > 40-precision && difference.Sign() != 0 {
-			t.Errorf("%s: %s and %s", name, x.Text('g', 70), y.Text('g', 70))
-		}
+		isAlmost(t, name, x, y)
 	}
 	machin := minus(times(realOf(16), arcTangentOf(5)), times(realOf(4), arcTangentOf(239)))
 	almost("the formula of Machin", machin, realPi())
@@ -163,4 +231,27 @@ func TestRealNumbersFitTogether(t *testing.T) {
 	almost("the direction of -1, -1", directionOf(realOf(-1), realOf(-1)), times(realPi(), over(realOf(-3), realOf(4))))
 	almost("the direction of -2, 1", directionOf(realOf(1), realOf(-2)), plus(quarterTurns(1), arcTangent(realOf(2))))
 	almost("the direction of 0, -5", directionOf(realOf(-5), realOf(0)), quarterTurns(-1))
+}
+
+func TestRealExponentialsFitTogether(t *testing.T) {
+	almost := func(name string, x, y *big.Float) {
+		t.Helper()
+		isAlmost(t, name, x, y)
+	}
+	negative := func(x *big.Float) *big.Float { return times(realOf(-1), x) }
+	third, seven := over(realOf(1), realOf(3)), realOf(7)
+	cotangent := func(n int64) *big.Float { return inverseHyperbolicTangent(over(realOf(1), realOf(n))) }
+	sum := minus(times(realOf(18), cotangent(26)), times(realOf(2), cotangent(4801)))
+	almost("a formula for the logarithm of 2", plus(sum, times(realOf(8), cotangent(8749))), realLnTwo())
+	almost("the exponential of the logarithm of 2", exponentialOf(realLnTwo()), realOf(2))
+	almost("the exponential of 7 and of -7", times(exponentialOf(seven), exponentialOf(negative(seven))), realOf(1))
+	almost("the exponential of 3 times 1/3", exponentialOf(realOf(1)), times(exponentialOf(third), times(exponentialOf(third), exponentialOf(third))))
+	almost("the logarithm of 6", logarithmOf(realOf(6)), plus(realLnTwo(), logarithmOf(realOf(3))))
+	almost("the logarithm of 1/3", logarithmOf(third), negative(logarithmOf(realOf(3))))
+	almost("the logarithm of the exponential of 7", logarithmOf(exponentialOf(seven)), seven)
+	almost("the exponential of the logarithm of 1/3", exponentialOf(logarithmOf(third)), third)
+	sine, cosine := hyperbolicSineAndCosine(third)
+	almost("the hyperbola at 1/3", minus(times(cosine, cosine), times(sine, sine)), realOf(1))
+	almost("the inverse hyperbolic sine", inverseHyperbolicSine(negative(sine)), negative(third))
+	almost("the inverse hyperbolic tangent", inverseHyperbolicTangent(hyperbolicTangent(negative(third))), negative(third))
 }
