@@ -2,6 +2,7 @@ package tests
 
 import (
 	"fmt"
+	"slices"
 	"sync"
 	"testing"
 
@@ -92,6 +93,26 @@ func exponentialsOf(k, n int64, x impl.Interval) string {
 		impl.TanhI(x), impl.AsinhI(x), impl.AtanhI(x), impl.PowerI(x, k))
 }
 
+// rootsOf prints the results of all functions of chapter 9.
+func rootsOf(p, q []impl.Interval, x impl.Interval, n int64) string {
+	slope, slopeCode := impl.PolyDerivative(p)
+	sum, sumCode := impl.AddPolys(p, q)
+	product, productCode := impl.MulPolys(p, q)
+	half, halfCode := impl.BisectRoot(p, x, n)
+	newton, newtonCode := impl.NewtonRoot(p, x, n)
+	certain, doubtful, code := impl.RootsIn(p, x, n)
+	return fmt.Sprint(impl.ValidPoly(p), impl.PolyAt(p, x), slope, slopeCode, sum, sumCode, product, productCode, impl.SignI(x),
+		impl.SignChange(p, x), impl.UniqueRoot(p, x), half, halfCode, newton, newtonCode, certain, doubtful, code)
+}
+
+// vectorsOf prints the results of all functions of chapter 10.
+func vectorsOf(a, b, c impl.Vec, x impl.Interval) string {
+	m, n := impl.Mat{A: a, B: b, C: c}, impl.Mat{A: c, B: a, C: b}
+	inverse, ok := impl.InverseM(m)
+	return fmt.Sprint(impl.SameVec(a, b), impl.AddV(a, b), impl.SubV(a, b), impl.ScaleV(a, x), impl.DotV(a, b), impl.CrossV(a, b), impl.NormV(a), impl.UnitV(a),
+		impl.OverlapV(a, b), impl.TurnX(a, x), impl.TurnY(a, x), impl.TurnZ(a, x), impl.ApplyM(m, a), impl.MulM(m, n), inverse, ok)
+}
+
 // everything prints the results of all functions for many arguments.
 func everything() []string {
 	var lines []string
@@ -115,7 +136,8 @@ func everything() []string {
 	lines = append(lines, fixesAndIntervals()...)
 	lines = append(lines, trigonometry()...)
 	lines = append(lines, arcs()...)
-	return append(lines, exponentials()...)
+	lines = append(lines, exponentials()...)
+	return append(lines, rootsAndVectors()...)
 }
 
 // fixesAndIntervals prints the results of all functions of the chapters 3 and
@@ -190,6 +212,75 @@ func exponentials() []string {
 		lines = append(lines, exponentialsOf(int64(i%135-67), n, exactly(n)))
 	}
 	return lines
+}
+
+// rootsAndVectors prints the results of all functions of the chapters 9 and 10
+// for many arguments.
+func rootsAndVectors() []string {
+	var lines []string
+	list := append(polynomials(), noPolynomials()...)
+	intervals := append(rootIntervals(), wholes()...)
+	for i, p := range list {
+		for k, x := range intervals {
+			lines = append(lines, rootsOf(p, list[(i*5+k*3)%len(list)], x, int64((i+k*7)%64-1)))
+		}
+	}
+	spaces, angles := vectors(), someAngles()
+	for i, a := range spaces {
+		for k, x := range angles {
+			lines = append(lines, vectorsOf(a, spaces[(i*3+k)%len(spaces)], spaces[(i+k*5)%len(spaces)], x))
+		}
+	}
+	return lines
+}
+
+// withRoom returns a copy of a list with unused capacity, and all of its memory.
+func withRoom(p []impl.Interval) ([]impl.Interval, []impl.Interval) {
+	all := append(slices.Clone(p), cells(77, 5, 5)...)
+	return all[:len(p)], all
+}
+
+func TestListsAreNotChanged(t *testing.T) {
+	list := append(polynomials(), noPolynomials()...)
+	for i, p := range list {
+		a, allOfA := withRoom(p)
+		b, allOfB := withRoom(list[(i*7+2)%len(list)])
+		wantA, wantB := slices.Clone(allOfA), slices.Clone(allOfB)
+		for k, x := range rootIntervals() {
+			rootsOf(a, b, x, int64(i*k%61))
+			rootsOf(b, a, x, int64(i*k%61))
+		}
+		is(t, fmt.Sprint("the list ", p), fmt.Sprint(allOfA), fmt.Sprint(wantA))
+		is(t, fmt.Sprint("the list ", p), fmt.Sprint(allOfB), fmt.Sprint(wantB))
+	}
+}
+
+// listsOf returns the lists that are results of chapter 9.
+func listsOf(p, q []impl.Interval) [][]impl.Interval {
+	slope, _ := impl.PolyDerivative(p)
+	sum, _ := impl.AddPolys(p, q)
+	product, _ := impl.MulPolys(p, q)
+	certain, doubtful, _ := impl.RootsIn(p, between(-3*impl.Unit, 4*impl.Unit), 7)
+	return [][]impl.Interval{slope, sum, product, certain, doubtful}
+}
+
+func TestListsShareNoMemory(t *testing.T) {
+	list := append(polynomials(), factors(-2, 1, 1))
+	for i, p := range list {
+		for _, q := range [][]impl.Interval{polyOf(0), polyOf(1), list[(i*7+2)%len(list)]} {
+			a, allOfA := withRoom(p)
+			b, allOfB := withRoom(q)
+			others := append(listsOf(a, b), allOfA, allOfB)
+			for k, result := range listsOf(a, b) {
+				others = append(others, result)
+				before := fmt.Sprint(others[:len(others)-1])
+				for j := range result[:cap(result)] {
+					result[:cap(result)][j] = exactly(int64(-12345 - k))
+				}
+				is(t, fmt.Sprint("the lists beside a result for ", p, q), fmt.Sprint(others[:len(others)-1]), before)
+			}
+		}
+	}
 }
 
 func TestEqualArgumentsHaveEqualResults(t *testing.T) {
