@@ -113,6 +113,19 @@ func vectorsOf(a, b, c impl.Vec, x impl.Interval) string {
 		impl.OverlapV(a, b), impl.TurnX(a, x), impl.TurnY(a, x), impl.TurnZ(a, x), impl.ApplyM(m, a), impl.MulM(m, n), inverse, ok)
 }
 
+// anglesOf prints the results of all functions of chapter 11.
+func anglesOf(p, q impl.Point, n int64, x, y impl.Interval, s string) string {
+	between, betweenCode := impl.LonBetween(p, q)
+	other, otherCode := impl.Antipode(p)
+	same, sameCode := impl.SamePlace(p, q)
+	point, pointOk := impl.ReadPoint(s)
+	text, textCode := impl.AngleText(n)
+	angle, angleOk := impl.ReadAngle(s)
+	middle, doubt, middleCode := impl.MiddlePoint(x, y)
+	return fmt.Sprint(impl.ValidPoint(p), impl.WrapLon(n), between, betweenCode, impl.LatOf(p), impl.LonOf(p), other, otherCode, same, sameCode,
+		impl.PointText(p), point, pointOk, text, textCode, angle, angleOk, middle, doubt, middleCode, impl.AtPoint(x, y, p))
+}
+
 // everything prints the results of all functions for many arguments.
 func everything() []string {
 	var lines []string
@@ -137,7 +150,8 @@ func everything() []string {
 	lines = append(lines, trigonometry()...)
 	lines = append(lines, arcs()...)
 	lines = append(lines, exponentials()...)
-	return append(lines, rootsAndVectors()...)
+	lines = append(lines, rootsAndVectors()...)
+	return append(lines, pointsAndAngles()...)
 }
 
 // fixesAndIntervals prints the results of all functions of the chapters 3 and
@@ -229,6 +243,25 @@ func rootsAndVectors() []string {
 	for i, a := range spaces {
 		for k, x := range angles {
 			lines = append(lines, vectorsOf(a, spaces[(i*3+k)%len(spaces)], spaces[(i+k*5)%len(spaces)], x))
+		}
+	}
+	return lines
+}
+
+// pointsAndAngles prints the results of all functions of chapter 11 for many
+// arguments.
+func pointsAndAngles() []string {
+	var lines []string
+	all := append(onEarth(), noPoints()...)
+	intervals := append(earthIntervals(), wholes()...)
+	list := append(append(numbers(), angleNumbers()...), beyondAngles...)
+	forms := append(variants("-0.0000001 52.5000000", "-0. \xff"), variants("-12d34m56.76996s", "-0d. \xff")...)
+	forms = append(forms, texts...)
+	for i, p := range all {
+		for k := range 8 {
+			j := i*8 + k
+			q, x, y := all[(j*7+3)%len(all)], intervals[j%len(intervals)], intervals[j*5%len(intervals)]
+			lines = append(lines, anglesOf(p, q, list[j%len(list)], x, y, forms[j%len(forms)]), anglesOf(p, p, list[j*3%len(list)], impl.LatOf(p), y, impl.PointText(p)))
 		}
 	}
 	return lines
